@@ -1,0 +1,1 @@
+"""Two machines, one game: see twopads.games.answers."""
