@@ -2,7 +2,10 @@
 
 from twopads.games import answers
 
-NUMBER_OF_CALL = {"begin": 0, "frame": 1, "send": 2, "hand": 3, "lose": 4, "net": 5, "now": 6, "settled": 7}
+NUMBER_OF_CALL = {
+    "begin": 0, "frame": 1, "send": 2, "hand": 3, "lose": 4, "net": 5, "now": 6, "settled": 7,
+    "state": 8, "pads": 9, "fault": 10, "watch": 11, "film": 12, "differ": 13, "both": 14, "runs": 15,
+}
 
 # A program that puts what is pressed into a, then adds it to place 100, and begins anew each frame.
 # Behind t frames, place 100 has the sum of the t pads together, modulo 256.
@@ -64,15 +67,33 @@ def machine(some_bytes, a=0, x=0, place=0, z=1, c=0, changed=None):
     return [a, x, place, z, c] + memory
 
 
-def summed(pads):
-    """The machine loaded with SUMMING behind frames with these pads (each: both sides', together)."""
+def summed_machine(pads, faults=None, others=None):
+    """All of the machine loaded with SUMMING behind frames with these pads (each: both sides', together).
+
+    faults: by frame, which byte place 100 is as it begins. others: bytes at places that the program leaves alone.
+    """
     total = 0
     a, place, z, c = 0, 0, 1, 0
-    for pad in pads:
+    for t, pad in enumerate(pads):
+        total = (faults or {}).get(t, total)
         c = 1 if total + pad >= 256 else 0
         total = (total + pad) % 256
         a, place, z = total, 8, 1 if total == 0 else 0
     changed = {100: total}
     if pads:
         changed[127] = pads[-1]
-    return mark_of(machine(SUMMING, a=a, place=place, z=z, c=c, changed=changed))
+    changed.update(others or {})
+    return machine(SUMMING, a=a, place=place, z=z, c=c, changed=changed)
+
+
+def summed(pads, faults=None, others=None):
+    return mark_of(summed_machine(pads, faults, others))
+
+
+def frames(side, pads):
+    return [("frame", side, pad) for pad in pads]
+
+
+def handed_on(side):
+    """The side sends a letter onto an empty net, and it is handed over and gone."""
+    return [("send", side), ("hand", 0, 0)]

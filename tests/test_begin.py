@@ -8,11 +8,23 @@ from helper import SUMMING, last, machine, mark_of, play, summed
 MIDST = [
     ("begin", 1, 3, SUMMING),
     ("frame", 0, 5), ("frame", 0, 6), ("frame", 1, 7),
-    ("send", 0), ("send", 1), ("hand", 1, 1),
+    ("send", 0), ("send", 1), ("hand", 1, 1), ("watch", 0), ("watch", 1),
+    ("fault", 0, 100, 9), ("frame", 0, 8), ("fault", 0, 101, 10), ("fault", 1, 102, 11),
 ]
-LOOK = [("net",), ("now", 0), ("now", 1), ("settled", 0), ("settled", 1)]
+LOOK = [
+    ("net",), ("now", 0), ("now", 1), ("settled", 0), ("settled", 1), ("state", 0, 0), ("state", 1, 0),
+    ("pads", 0, 0), ("pads", 1, 0), ("film",), ("differ", 0), ("differ", 1), ("both",), ("runs", 0), ("runs", 1),
+]
 
-FRESH = [[0]] + [[0, mark_of(machine([]))]] * 4
+
+def fresh(delay, some_bytes):
+    """What LOOK answers ahead of all frames."""
+    loaded = machine(some_bytes)
+    return ([[0]] + [[0, mark_of(loaded)]] * 4 + [loaded] * 2 + [[-3]] * 2
+            + [[delay] + [0] * delay] + [[0, 0]] * 3 + [[0]] * 2)
+
+
+FRESH = fresh(0, [])
 
 
 def look_behind(*calls):
@@ -40,8 +52,7 @@ class Begin(unittest.TestCase):
             for ahead in (1, 10):
                 for some_bytes in ([], [0], [255], [0] * 128, [255] * 128):
                     given = play(("begin", delay, ahead, some_bytes), *LOOK)
-                    expected = [0, mark_of(machine(some_bytes))]
-                    self.assertEqual(given, [[0], [0], expected, expected, expected, expected])
+                    self.assertEqual(given, [[0]] + fresh(delay, some_bytes))
 
     def test_delay_counts(self):
         for delay in range(7):
@@ -65,7 +76,7 @@ class Begin(unittest.TestCase):
 
     def test_in_the_midst_everything_is_new(self):
         anew = [("begin", 2, 2, SUMMING), ("frame", 0, 1), ("send", 0), ("send", 1), ("frame", 1, 2), ("hand", 0, 0)]
-        anew += [("frame", 0, 3)] * 5
+        anew += [("frame", 0, 3)] * 5 + [("frame", 1, 3)] * 3 + [("send", 1), ("watch", 0), ("send", 0), ("watch", 1)]
         self.assertEqual(play(*MIDST, *anew, *LOOK)[len(MIDST):], play(*anew, *LOOK))
 
     def test_the_same_bytes_again(self):
@@ -91,6 +102,7 @@ class BeginRefused(unittest.TestCase):
 
     def test_the_game_is_as_it_was(self):
         goes_on = [("frame", 1, 4), ("frame", 0, 1), ("frame", 0, 1), ("frame", 0, 1), ("hand", 0, 0), ("send", 1)]
+        goes_on += [("hand", 0, 0), ("hand", 0, 0), ("both",)]
         expected = play(*MIDST, *goes_on, *LOOK)
         for wrong in self.WRONG:
             given = play(*MIDST, wrong, *goes_on, *LOOK)
@@ -108,7 +120,8 @@ class BeginRefused(unittest.TestCase):
 
 class CallsWithASide(unittest.TestCase):
     def calls(self, side):
-        return [("frame", side, 3), ("send", side), ("now", side), ("settled", side)]
+        return [("frame", side, 3), ("send", side), ("now", side), ("settled", side), ("state", side, 0),
+                ("pads", side, 0), ("fault", side, 0, 0), ("differ", side), ("runs", side)]
 
     def test_sides_0_and_1(self):
         for side in (0, 1):
@@ -120,7 +133,9 @@ class CallsWithASide(unittest.TestCase):
             for call in self.calls(side):
                 self.assertEqual(last(call), [-1], call)
                 self.assertEqual(last(*MIDST, call), [-1], call)
-                self.assertEqual(look_behind(*MIDST, call), look_behind(*MIDST), call)
+                # The frames show that no fault was told.
+                later = [("frame", 0, 1), ("frame", 1, 1)]
+                self.assertEqual(look_behind(*MIDST, call, *later), look_behind(*MIDST, *later), call)
 
     def test_each_side_answers_for_itself(self):
         given = play(("begin", 0, 5, SUMMING), ("frame", 1, 1), ("frame", 1, 2), ("frame", 0, 3),

@@ -2,17 +2,12 @@
 
 import unittest
 
-from helper import SUMMING, last, play, summed
+from helper import SUMMING, handed_on, last, play, summed
 from twopads.play import Game
 
 
 def begin(delay, ahead):
     return ("begin", delay, ahead, SUMMING)
-
-
-def handed_on(side):
-    """The side sends a letter onto an empty net, and it is handed over and gone."""
-    return [("send", side), ("hand", 0, 0)]
 
 
 def to_the_end(frames):

@@ -2,13 +2,9 @@
 
 import unittest
 
-from helper import SUMMING, last, play, summed
+from helper import SUMMING, frames, last, play, summed
 
 BEGUN = ("begin", 0, 10, SUMMING)
-
-
-def frames(side, pads):
-    return [("frame", side, pad) for pad in pads]
 
 
 class Send(unittest.TestCase):
@@ -78,7 +74,7 @@ class Send(unittest.TestCase):
         self.assertEqual(play(*full, ("send", -1), ("send", 2), ("send", 1))[-3:], [[-1], [-1], [-5]])
 
     def test_a_letter_stays_as_it_was_sent(self):
-        calls = [BEGUN] + frames(0, [1]) + [("send", 0)] + frames(0, [2]) + frames(1, [3]) + [("send", 1), ("hand", 1, 0)]
+        calls = [BEGUN, ("frame", 0, 1), ("send", 0), ("frame", 0, 2), ("frame", 1, 3), ("send", 1), ("hand", 1, 0)]
         self.assertEqual(last(*calls, ("net",)), [1, 0, 0, 0, 1, 1])
 
 

@@ -9,9 +9,17 @@ HAND = 3
 LOSE = 4
 NET = 5
 NOW = 6
+SETTLED = 7
+STATE = 8
+PADS = 9
+FAULT = 10
+WATCH = 11
+FILM = 12
+DIFFER = 13
+BOTH = 14
 
 # How many numbers stand behind each call's own; begin's bytes come on top.
-NUMBERS_OF_CALL = (3, 2, 1, 2, 1, 0, 1, 1)
+NUMBERS_OF_CALL = (3, 2, 1, 2, 1, 0, 1, 1, 2, 2, 3, 1, 0, 1, 0, 1)
 
 
 # The place behind the call that stands at this place.
@@ -25,6 +33,13 @@ def call_end(calls, place):
 
 
 def answer(game, which, numbers):
+    if which <= SETTLED:
+        return answer_of_play(game, which, numbers)
+    return answer_of_look(game, which, numbers)
+
+
+# The calls by which the two play.
+def answer_of_play(game, which, numbers):
     if which == BEGIN:
         return game.begin(numbers[0], numbers[1], numbers[3:])
     if which == FRAME:
@@ -40,6 +55,25 @@ def answer(game, which, numbers):
     if which == NOW:
         return game.now(numbers[0])
     return game.settled(numbers[0])
+
+
+# The calls of who looks into the machines: faults, who watches, and what differs.
+def answer_of_look(game, which, numbers):
+    if which == STATE:
+        return game.state(numbers[0], numbers[1])
+    if which == PADS:
+        return game.pads(numbers[0], numbers[1])
+    if which == FAULT:
+        return game.fault(numbers[0], numbers[1], numbers[2])
+    if which == WATCH:
+        return game.watch(numbers[0])
+    if which == FILM:
+        return game.film()
+    if which == DIFFER:
+        return game.differ(numbers[0])
+    if which == BOTH:
+        return game.both()
+    return game.runs(numbers[0])
 
 
 # For each call how many numbers it answers, and these, one behind another.

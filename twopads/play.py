@@ -1,6 +1,9 @@
-"""A game: two sides and the net between them. Each call answers a list of numbers."""
+"""A game: two sides, the net between them, and who watches. Each call answers a list of numbers."""
 
+from twopads.machine import PLACES
+from twopads.pads import LETTER_SIDE
 from twopads.sides import Side
+from twopads.watching import Watcher
 
 MOST_DELAY = 6
 MOST_AHEAD = 10
@@ -9,9 +12,11 @@ MOST_BYTE = 255
 MOST_PAD = 15
 MOST_FRAMES = 100
 MOST_LETTERS = 30
+MOST_FAULTS = 10
 
 NOT_AS_TOLD = -1
 NO_SUCH_LETTER = -2
+NO_SUCH_FRAME = -3
 NO_ROOM = -5
 TOO_FAR_AHEAD = -6
 
@@ -36,12 +41,23 @@ def two_sides(delay, some_bytes):
     return [Side(0, delay, some_bytes), Side(1, delay, some_bytes)]
 
 
+# Where two machines are no longer the same, of the frames that both have; each is told by
+# its states ahead of each frame and behind all.
+def apart(some_states, other_states):
+    frames = min(len(some_states), len(other_states)) - 1
+    for t in range(frames + 1):
+        if some_states[t] != other_states[t]:
+            return [1, t]
+    return [0, frames]
+
+
 # What a line's calls are about.
 class Game:
     def __init__(self):
         self.ahead = 1
         self.sides = two_sides(0, [])
         self.letters = []
+        self.watcher = Watcher(0, [])
 
     def begin(self, delay, ahead, some_bytes):
         if not may_begin(delay, ahead, some_bytes):
@@ -49,6 +65,7 @@ class Game:
         self.ahead = ahead
         self.sides = two_sides(delay, some_bytes)
         self.letters = []
+        self.watcher = Watcher(delay, some_bytes)
         return [0]
 
     def frame(self, side, pad):
@@ -82,7 +99,7 @@ class Game:
         if not self.has_letter(k):
             return [NO_SUCH_LETTER]
         letter = self.letters[k]
-        again = self.sides[1 - letter[0]].take(letter)
+        again = self.sides[1 - letter[LETTER_SIDE]].take(letter)
         if stays == 0:
             self.letters.pop(k)
         return [again]
@@ -112,3 +129,50 @@ class Game:
         player = self.sides[side]
         t = player.frames_settled()
         return [t, player.mark_ahead(t)]
+
+    def state(self, side, t):
+        if not is_side(side):
+            return [NOT_AS_TOLD]
+        player = self.sides[side]
+        if not within(t, 0, player.frames_run()):
+            return [NO_SUCH_FRAME]
+        return list(player.states[t])
+
+    def pads(self, side, t):
+        if not is_side(side):
+            return [NOT_AS_TOLD]
+        player = self.sides[side]
+        if not within(t, 0, player.frames_run() - 1):
+            return [NO_SUCH_FRAME]
+        return [player.own[t], player.used[t], 1 if player.is_guess(t) else 0]
+
+    def fault(self, side, place, byte):
+        if not is_side(side) or not within(place, 0, PLACES - 1) or not within(byte, 0, MOST_BYTE):
+            return [NOT_AS_TOLD]
+        player = self.sides[side]
+        if len(player.faults) >= MOST_FAULTS:
+            return [NO_ROOM]
+        player.tell_fault(place, byte)
+        return [player.frames_run()]
+
+    def watch(self, k):
+        if not self.has_letter(k):
+            return [NO_SUCH_LETTER]
+        self.watcher.read(self.letters[k])
+        return [len(self.watcher.seen), self.watcher.mark_behind()]
+
+    def film(self):
+        return [len(self.watcher.seen)] + self.watcher.seen
+
+    def differ(self, side):
+        if not is_side(side):
+            return [NOT_AS_TOLD]
+        return apart(self.sides[side].states_settled(), self.watcher.states)
+
+    def both(self):
+        return apart(self.sides[0].states_settled(), self.sides[1].states_settled())
+
+    def runs(self, side):
+        if not is_side(side):
+            return [NOT_AS_TOLD]
+        return [self.sides[side].run_in_all]
